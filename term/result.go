@@ -2,6 +2,7 @@ package term
 
 import (
 	"tribunal/api"
+	"tribunal/fresh"
 	"tribunal/nat"
 	"tribunal/sort"
 )
@@ -25,7 +26,7 @@ func (t *Table) result(n api.Node) (api.Sort, api.Errno) {
 	case api.OLe, api.OLt, api.OGe, api.OGt:
 		return t.allOf(integer, n.Args, boolean)
 	case api.OConst:
-		return t.each(n.Sort.Args[1:], n.Args, copiedSort(n.Sort))
+		return t.each(n.Sort.Args[1:], n.Args, fresh.Sort(n.Sort))
 	case api.OSelect, api.OStore:
 		return t.ofArray(n)
 	case api.OBits:
